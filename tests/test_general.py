@@ -1,0 +1,183 @@
+"""What holds of all calls (0.2 to 0.5)."""
+
+import itertools
+import sys
+import unittest
+from fractions import Fraction
+
+from calmblanks import tables, webs
+from calmblanks.errors import BlankError
+from calmblanks.tables import Seen, Whole
+from calmblanks.webs import Web
+from tests.helper import (ROWS, SIXTY, Checks, bare_whole, deep, frozen, halves, lots_of, odd_numbers, uneven, weighed)
+
+SEEN = tables.seen_of_rows((2, 2), ROWS)
+WHOLE = uneven((2, 2), lots_of(2), 1)
+WEB = Web(2, ((0, 3), (1, 2), (2, 3)))
+TABLES = webs.tables_of(WEB, WHOLE)
+CALLS = [
+    (Seen, (2, 2), SEEN.shares), (Whole, (2, 2), WHOLE.shares), (Web, 2, WEB.arrows),
+    (tables.contents, (2, 2)), (tables.patterns, (2, 2)), (tables.views, (2, 2), (0,)), (tables.family, SEEN),
+    (tables.family, WHOLE), (tables.lacking, SEEN), (tables.view, (2, 2), (0, 1), (0,)), (tables.contents_alone, WHOLE),
+    (tables.patterns_alone, SEEN), (tables.patterns_alone, WHOLE), (tables.share, SEEN, (0, -1)),
+    (tables.share, WHOLE, ((0, 1), (1,))), (tables.hidden, WHOLE), (tables.seen_of_rows, (2, 2), list(ROWS)),
+    (tables.is_full, SEEN), (tables.mixed, WHOLE, WHOLE, (1, 3)),
+    (webs.parents, WEB, 3), (webs.children, WEB, 0), (webs.behind, WEB, 0), (webs.order, WEB), (webs.tied, WEB),
+    (webs.fewest_out, WEB), (webs.product, WEB, (2, 2), TABLES), (webs.broken, WEB, WHOLE),
+    (webs.tables_of, WEB, WHOLE), (webs.is_fitting, WEB, WHOLE), (webs.ties, WEB), (webs.untied, WEB),
+]
+# For each call the places of the arguments for which an error is named, or of which a thing is judged.
+JUDGED = {
+    Seen: (0, 1), Whole: (0, 1), Web: (0, 1), tables.contents: (0,), tables.patterns: (0,), tables.views: (0, 1),
+    tables.view: (0, 1, 2), tables.share: (1,), tables.seen_of_rows: (0, 1), tables.is_full: (0,),
+    tables.mixed: (0, 1, 2), webs.parents: (1,), webs.children: (1,), webs.behind: (1,), webs.product: (1, 2),
+    webs.is_fitting: (1,),
+}
+
+
+class Kinds(Checks):
+    def test_the_kinds_of_the_answers(self):
+        kinds = {
+            tables.contents: list, tables.patterns: list, tables.views: list, tables.family: list, tables.lacking: list,
+            tables.view: tuple, tables.contents_alone: tuple, tables.patterns_alone: tuple, tables.share: tuple,
+            tables.hidden: Seen, tables.seen_of_rows: Seen, tables.is_full: bool, tables.mixed: Whole,
+            webs.parents: tuple, webs.children: tuple, webs.behind: tuple, webs.order: tuple, webs.tied: tuple,
+            webs.fewest_out: tuple, webs.product: Whole, webs.broken: int, webs.tables_of: tuple, webs.is_fitting: bool,
+            webs.ties: list, webs.untied: Web, Seen: Seen, Whole: Whole, Web: Web,
+        }
+        for function, *arguments in CALLS:
+            self.assertIs(function(*arguments).__class__, kinds[function], function.__name__)
+
+    def test_equal_calls_give_equal_answers_and_change_nothing(self):
+        for function, *arguments in CALLS:
+            before = frozen(arguments)
+            answer = function(*arguments)
+            self.assertEqual(frozen(function(*arguments)), frozen(answer), function.__name__)
+            self.assertEqual(frozen(arguments), before, function.__name__)
+
+    def test_each_list_is_new(self):
+        for function, *arguments in CALLS:
+            answer = function(*arguments)
+            if isinstance(answer, list):
+                before = frozen(answer)
+                answer.append("more")
+                self.assertEqual(frozen(function(*arguments)), before, function.__name__)
+
+    def test_fractions_are_in_lowest_terms(self):
+        whole = webs.product(WEB, (2, 2), TABLES)
+        shares = [fraction for table in (whole, tables.hidden(WHOLE), tables.mixed(whole, WHOLE, (1, 6)), SEEN)
+                  for _, fraction in table.shares]
+        shares += [fraction for pairs in (tables.contents_alone(WHOLE), tables.patterns_alone(SEEN))
+                   for _, fraction in pairs]
+        shares += [fraction for table in TABLES for _, line in table for fraction in line]
+        for top, bottom in shares:
+            own = Fraction(top, bottom)
+            self.assertEqual((own.numerator, own.denominator), (top, bottom))
+            self.assertTrue(0 < top <= bottom)
+
+
+class Judged(Checks):
+    def test_no_other_error_is_raised_because_of_what_a_thing_is(self):
+        for function, *arguments in CALLS:
+            for place in JUDGED.get(function, ()):
+                for thing in odd_numbers():
+                    altered = arguments[:place] + [thing] + arguments[place + 1:]
+                    before = frozen(arguments[:place] + arguments[place + 1:])
+                    try:
+                        answer = function(*altered)
+                    except BlankError:
+                        self.assertNotIn(function, (tables.share, tables.is_full, webs.is_fitting))
+                    else:
+                        self.assertEqual(frozen(function(*altered)), frozen(answer))
+                    self.assertEqual(frozen(arguments[:place] + arguments[place + 1:]), before)
+
+    def test_forty_deep_within_what_is_otherwise_right(self):
+        for make in (lambda thing: (thing,), lambda thing: [thing], lambda thing: {0: thing}, lambda thing: (thing, 1)):
+            thing = deep(make, 36)
+            for wrong in [((thing, (1, 1)),), (((0, 0), thing),), (((0, 0), (thing, 1)),), (((0, thing), (1, 1)),), (thing,)]:
+                self.raises(tables.BadSeen, {"part": 0}, Seen, (2, 2), wrong)
+                self.raises(tables.BadWhole, {"part": 0}, Whole, (2, 2), wrong)
+                self.raises(webs.BadWeb, {"part": 0}, Web, 2, wrong)
+                self.raises(webs.BadTables, {"thing": 0}, webs.product, WEB, (2, 2), (wrong,) + TABLES[1:])
+                self.tells((0, 1), tables.share, SEEN, wrong)
+
+    def test_long_tuples(self):
+        many = 6000
+        self.raises(tables.BadSeen, {"part": 1}, Seen, (2,), (((0,), (1, 1)),) * many)
+        self.raises(tables.BadWhole, {"part": 1}, Whole, (2,), ((((0,), ()), (1, 2)),) * (many // 2))
+        self.raises(webs.BadWeb, {"part": 1}, Web, 2, ((0, 1),) * many)
+        self.raises(tables.BadSizes, {}, tables.contents, (2,) * many)
+        self.raises(tables.NoPattern, {}, tables.views, (2,), tuple(range(many)))
+        self.raises(webs.BadTables, {"thing": 0}, webs.product, Web(1, ()), (2,), (TABLES[0] * many, TABLES[1]))
+
+    def test_little_depth_is_enough(self):
+        limit = sys.getrecursionlimit()
+        sys.setrecursionlimit(len(list(itertools.takewhile(bool, frames()))) + 60)
+        try:
+            for function, *arguments in CALLS:
+                function(*arguments)
+        finally:
+            sys.setrecursionlimit(limit)
+
+
+def frames():
+    frame = sys._getframe()
+    while frame:
+        yield frame
+        frame = frame.f_back
+
+
+class Large(Checks):
+    def test_numbers_of_sixty_digits_where_they_are_wrong(self):
+        for number in (SIXTY, -SIXTY, 10 ** 59):
+            self.raises(tables.BadSizes, {}, tables.contents, (number,))
+            self.raises(tables.NoPattern, {}, tables.views, (2,), (number,))
+            self.raises(tables.NoContent, {}, tables.view, (2,), (number,), ())
+            self.raises(tables.BadRow, {"index": 0}, tables.seen_of_rows, (2,), [(number,)])
+            self.raises(tables.NoFraction, {}, tables.mixed, bare_whole(), bare_whole(), (number, 1))
+            self.raises(webs.BadWeb, {"part": "columns"}, Web, number, ())
+            self.raises(webs.BadWeb, {"part": 0}, Web, 2, ((0, number),))
+            self.raises(webs.NoThing, {}, webs.behind, WEB, number)
+            self.tells((0, 1), tables.share, halves(), (number,))
+
+    def test_sixty_digits_in_seen_tables_and_wholes(self):
+        shares = weighed((2, 2), lots_of(2), [SIXTY // 17, SIXTY // 19, SIXTY // 23, 1])
+        self.assertEqual(sum(Fraction(*fraction) for _, fraction in tables.contents_alone(shares)), 1)
+        self.assertEqual(sum(Fraction(*fraction) for _, fraction in tables.hidden(shares).shares), 1)
+        told = tables.mixed(shares, WHOLE, (SIXTY - 1, SIXTY))
+        self.assertEqual(Whole(told.sizes, told.shares), told)
+
+    def test_numbers_of_more_figures_than_python_writes(self):
+        whole = bare_whole()
+        other = weighed((2,), [(0,)], [1, 4])
+        for _ in range(90):
+            whole = tables.mixed(whole, other, (SIXTY - 2, SIXTY))
+        fraction = tables.share(whole, ((0,), (0,)))
+        self.assertGreater(fraction[1].bit_length(), 16000)
+        self.raises(tables.BadWhole, {"part": "sum"}, Whole, (2,), ((((0,), ()), fraction), (((1,), ()), fraction)))
+        self.raises(tables.NoFraction, {}, tables.mixed, whole, whole, (fraction[1], fraction[0]))
+        self.assertEqual(tables.mixed(whole, whole, fraction), whole)
+        self.raises(webs.BadWeb, {"part": "columns"}, Web, fraction[0], ())
+        self.assertEqual(tables.hidden(whole).shares, (((0,), fraction), ((1,), whole.shares[1][1])))
+
+
+class Unlike(Checks):
+    def test_objects_of_unlike_classes_are_unlike(self):
+        seen = Seen((2,), (((0,), (1, 2)), ((1,), (1, 2))))
+        things = [seen, bare_whole(), Web(1, ()), tables.BadSizes(), tables.BadSeen("sum"), (2,), 1, None, seen.shares]
+        for one, other in itertools.permutations(things, 2):
+            self.assertFalse(one == other)
+            self.assertTrue(one != other)
+
+    def test_objects_do_not_change_with_what_they_were_made_of(self):
+        rows = [(0, 0), (1, 1)]
+        seen = tables.seen_of_rows((2, 2), rows)
+        before = frozen(seen)
+        rows[0] = (1, 0)
+        tables.family(seen).append(())
+        tables.lacking(seen).clear()
+        self.assertEqual(frozen(seen), before)
+
+
+if __name__ == "__main__":
+    unittest.main()
