@@ -99,6 +99,14 @@ def all_lots(many):
     return sorted(found)
 
 
+def fewest_first(tuples):
+    return sorted(tuples, key=lambda own: (len(own), own))
+
+
+def picked(worths, places):
+    return tuple([worths[place] for place in places])
+
+
 def lowest(top, bottom):
     common = gcd(top, bottom)
     return (top // common, bottom // common)
@@ -113,13 +121,21 @@ def divided(one, other):
     return lowest(one[0] * other[1], one[1] * other[0])
 
 
+def joined(one, other):
+    """The sum of two, perhaps not in lowest terms."""
+    bottom = lcm(one[1], other[1])
+    return (one[0] * (bottom // one[1]) + other[0] * (bottom // other[1]), bottom)
+
+
 def added(fractions):
     """The sum, in lowest terms."""
-    # One bottom for all, so that large numbers are reduced once and not at each step.
-    bottom = 1
-    for fraction in fractions:
-        bottom = lcm(bottom, fraction[1])
-    return lowest(sum([top * (bottom // own) for top, own in fractions]), bottom)
+    # Those with bottoms of like size go together first, two by two, so that large numbers meet late, and are reduced
+    # once and not at each step.
+    parts = sorted(fractions, key=lambda fraction: fraction[1])
+    while len(parts) > 1:
+        left = parts[len(parts) // 2 * 2:]
+        parts = [joined(parts[place], parts[place + 1]) for place in range(0, len(parts) - 1, 2)] + left
+    return lowest(parts[0][0], parts[0][1]) if len(parts) > 0 else (0, 1)
 
 
 def gathered(pairs):

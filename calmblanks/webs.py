@@ -1,7 +1,7 @@
 """Webs of arrows among columns and blanks, the wholes that fit them, and ties."""
 
 from calmblanks.basics import MOST_COLUMNS, added, all_tuples, gathered, is_between, is_just, is_share, is_sizes
-from calmblanks.basics import is_tuple_of, lowest, parted
+from calmblanks.basics import is_tuple_of, lowest, parted, picked
 from calmblanks.errors import BadSizes, BadTables, BadWeb, NoThing, NotAll, OtherColumns
 from calmblanks.tables import Whole, contents, family, patterns
 
@@ -108,14 +108,19 @@ def is_table(worths, many, thing):
     return all([is_line(own, many, line) for own, line in zip(worths, thing)])
 
 
+def worths_of_parents(web, sizes, thing):
+    """The ascending list of all tuples of worths of a thing's parents."""
+    many = many_worths(sizes)
+    return all_tuples([list(range(many[parent])) for parent in parents(web, thing)])
+
+
 def wrong_table(web, sizes, tables):
     """The first thing for which the tables are not so, -1 for no tuple of as many, None if they are."""
     many = many_worths(sizes)
     if not is_tuple_of(len(many), tables):
         return -1
     for thing, table in enumerate(tables):
-        worths = all_tuples([list(range(many[parent])) for parent in parents(web, thing)])
-        if not is_table(worths, many[thing], table):
+        if not is_table(worths_of_parents(web, sizes, thing), many[thing], table):
             return thing
     return None
 
@@ -123,10 +128,6 @@ def wrong_table(web, sizes, tables):
 def worths_of_all(content, pattern):
     """The worths of all things: those of the columns, then those of the blanks."""
     return content + tuple([0 if column in pattern else 1 for column in range(len(content))])
-
-
-def picked(worths, places):
-    return tuple([worths[place] for place in places])
 
 
 def product(web, sizes, tables):

@@ -111,8 +111,62 @@ def numbers(start):
         yield start % 97 + 1
 
 
+def fitting(web, sizes, start):
+    """A whole that fits a web: a product of drawn numbers, by Python's fractions."""
+    dice = numbers(start)
+    above = [tuple(tail for tail, head in sorted(web.arrows) if head == thing) for thing in range(2 * web.columns)]
+    many = sizes + (2,) * len(sizes)
+    drawn = {}
+    for thing in range(len(many)):
+        for worths in itertools.product(*[range(many[parent]) for parent in above[thing]]):
+            line = [next(dice) for _ in range(many[thing])]
+            for worth, weight in enumerate(line):
+                drawn[thing, worths, worth] = Fraction(weight, sum(line))
+    shares = []
+    for key in keys_of(sizes, lots_of(len(sizes))):
+        worths = cells(key)
+        told = Fraction(1)
+        for thing, worth in enumerate(worths):
+            told *= drawn[thing, tuple(worths[parent] for parent in above[thing]), worth]
+        shares.append((key, as_pair(told)))
+    return Whole(sizes, tuple(shares))
+
+
 def uneven(sizes, family, start):
     return weighed(sizes, family, list(itertools.islice(numbers(start), 1024)))
+
+
+def shown(content, pattern):
+    return tuple(worth if column in pattern else -1 for column, worth in enumerate(content))
+
+
+def woven(sizes, family, start):
+    """A calm whole: for each pattern of its family a drawn number for each view, and of each content and pattern the
+    product of the numbers of its views by all patterns that show this or more."""
+    drawn = {}
+    dice = numbers(start)
+    for content, pattern in keys_of(sizes, family):
+        if shown(content, pattern) not in drawn:
+            drawn[shown(content, pattern)] = next(dice)
+    weights = []
+    for content, pattern in keys_of(sizes, family):
+        weight = 1
+        for more in family:
+            if set(pattern) <= set(more):
+                weight *= drawn[shown(content, more)]
+        weights.append(weight)
+    return weighed(sizes, family, weights)
+
+
+def closed_families(columns):
+    """All families of so many columns in which with each pattern all are that show more."""
+    patterns = lots_of(columns)
+    found = []
+    for many in range(1, len(patterns) + 1):
+        for family in itertools.combinations(patterns, many):
+            if all(more in family for pattern in family for more in patterns if set(pattern) < set(more)):
+                found.append(list(family))
+    return found
 
 
 def cells(key):
@@ -171,12 +225,14 @@ class Checks(unittest.TestCase):
         self.assertEqual(frozen(arguments), before)
 
     def tells(self, answer, function, *arguments):
-        """Equal calls tell just this, kinds included; each list is new, and nothing passed is changed."""
+        """Equal calls tell just this, kinds included; each list and dict is new, and nothing passed is changed."""
         before = frozen(arguments)
         told = function(*arguments)
         self.assertEqual(frozen(told), frozen(answer), f"{function.__name__}{short(arguments)}")
         if isinstance(told, list):
             told.append("more")
+        if isinstance(told, dict):
+            told["more"] = "more"
         again = function(*arguments)
         self.assertEqual(frozen(again), frozen(answer))
         self.assertEqual(frozen(arguments), before)

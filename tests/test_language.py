@@ -58,7 +58,8 @@ def bound_at_top(tree):
 
 
 def bound_in(function):
-    names = [argument.arg for argument in function.args.args]
+    names = [argument.arg for own in ast.walk(function) if isinstance(own, (ast.FunctionDef, ast.Lambda))
+             for argument in own.args.args]
     return names + [node.id for node in ast.walk(function) if isinstance(node, ast.Name)
                     and isinstance(node.ctx, (ast.Store, ast.Del))]
 
