@@ -5,16 +5,23 @@ import sys
 import unittest
 from fractions import Fraction
 
-from calmblanks import tables, webs
+from calmblanks import calm, couldbe, plainways, reading, roads, tables, telling, texts, webs
 from calmblanks.errors import BlankError
 from calmblanks.tables import Seen, Whole
 from calmblanks.webs import Web
-from tests.helper import (ROWS, SIXTY, Checks, bare_whole, deep, frozen, halves, lots_of, odd_numbers, uneven, weighed)
+from tests.helper import (ROWS, SIXTY, Checks, bare_whole, deep, fitting, frozen, halves, lots_of, odd_numbers, uneven,
+                          weighed, woven)
 
 SEEN = tables.seen_of_rows((2, 2), ROWS)
 WHOLE = uneven((2, 2), lots_of(2), 1)
 WEB = Web(2, ((0, 3), (1, 2), (2, 3)))
 TABLES = webs.tables_of(WEB, WHOLE)
+CALM = woven((2, 2), lots_of(2), 1)
+CROSSED = Web(2, ((0, 3), (1, 2)))
+TIED = Web(2, ((0, 2), (0, 3), (2, 3)))
+TWINS = telling.twins(TIED, (2, 2))
+TIE = ((0, 3), (2, 3))
+TOLD = fitting(CROSSED, (2, 2), 1)
 CALLS = [
     (Seen, (2, 2), SEEN.shares), (Whole, (2, 2), WHOLE.shares), (Web, 2, WEB.arrows),
     (tables.contents, (2, 2)), (tables.patterns, (2, 2)), (tables.views, (2, 2), (0,)), (tables.family, SEEN),
@@ -25,14 +32,35 @@ CALLS = [
     (webs.parents, WEB, 3), (webs.children, WEB, 0), (webs.behind, WEB, 0), (webs.order, WEB), (webs.tied, WEB),
     (webs.fewest_out, WEB), (webs.product, WEB, (2, 2), TABLES), (webs.broken, WEB, WHOLE),
     (webs.tables_of, WEB, WHOLE), (webs.is_fitting, WEB, WHOLE), (webs.ties, WEB), (webs.untied, WEB),
+    (roads.open_road, WEB, (0,), (2,), (3,)), (roads.are_parted, WEB, (0,), (2,), (3,)),
+    (roads.is_open_road, WEB, (0,), (2,), (3,), (0, 3, 2)),
+    (calm.is_calm, CALM), (calm.first_uncalm, WHOLE), (calm.odds, CALM, 0, (1,)), (calm.calm_whole, SEEN),
+    (calm.quotients, SEEN), (calm.quotient, SEEN, (0, -1)), (calm.calm_part, WHOLE),
+    (telling.tells, WEB), (telling.twins, TIED, (2, 3)), (telling.are_twins, TIED, (2, 2), TWINS),
+    (telling.twins_by, TIED, (2, 3), TIE), (telling.told_whole, CROSSED, tables.hidden(TOLD)),
+    (couldbe.could_be, CROSSED, SEEN), (couldbe.webs_that_could, SEEN), (couldbe.least_webs, SEEN),
+    (couldbe.sure_arrows, tables.hidden(TOLD)), (couldbe.all_webs, 1),
+    (plainways.plain, SEEN, "shown rows", (0,), (1,)), (plainways.true_shares, WHOLE, (0,), (1,)),
+    (plainways.is_right, CROSSED, "shown rows", (0,), ()), (plainways.wrong_whole, CROSSED, (2, 3), "whole rows", (0,), ()),
+    (plainways.is_wrong_whole, CROSSED, (2, 2), "whole rows", (0,), (), TOLD),
+    (plainways.right_groups, CROSSED, "shown rows", (0,)),
+    (texts.seen_text, SEEN), (texts.web_text, WEB), (reading.read_seen, texts.seen_text(SEEN)),
+    (reading.read_web, texts.web_text(WEB)),
 ]
 # For each call the places of the arguments for which an error is named, or of which a thing is judged.
 JUDGED = {
     Seen: (0, 1), Whole: (0, 1), Web: (0, 1), tables.contents: (0,), tables.patterns: (0,), tables.views: (0, 1),
     tables.view: (0, 1, 2), tables.share: (1,), tables.seen_of_rows: (0, 1), tables.is_full: (0,),
     tables.mixed: (0, 1, 2), webs.parents: (1,), webs.children: (1,), webs.behind: (1,), webs.product: (1, 2),
-    webs.is_fitting: (1,),
+    webs.is_fitting: (1,), roads.open_road: (1, 2, 3), roads.are_parted: (1, 2, 3), roads.is_open_road: (1, 2, 3, 4),
+    calm.is_calm: (0,), calm.odds: (1, 2), calm.quotient: (1,), telling.twins: (1,), telling.are_twins: (1, 2),
+    telling.twins_by: (1, 2), couldbe.all_webs: (0,), plainways.plain: (1, 2, 3), plainways.true_shares: (1, 2),
+    plainways.is_right: (1, 2, 3), plainways.wrong_whole: (1, 2, 3, 4), plainways.is_wrong_whole: (1, 2, 3, 4, 5),
+    plainways.right_groups: (1, 2), reading.read_seen: (0,), reading.read_web: (0,),
 }
+# Functions that judge just what is put in the place of this argument, and raise no error because of it.
+JUDGES = ((tables.share, 1), (tables.is_full, 0), (webs.is_fitting, 1), (roads.is_open_road, 4), (calm.is_calm, 0),
+          (telling.are_twins, 2), (plainways.is_wrong_whole, 5))
 
 
 class Kinds(Checks):
@@ -44,6 +72,14 @@ class Kinds(Checks):
             webs.parents: tuple, webs.children: tuple, webs.behind: tuple, webs.order: tuple, webs.tied: tuple,
             webs.fewest_out: tuple, webs.product: Whole, webs.broken: int, webs.tables_of: tuple, webs.is_fitting: bool,
             webs.ties: list, webs.untied: Web, Seen: Seen, Whole: Whole, Web: Web,
+            roads.open_road: tuple, roads.are_parted: bool, roads.is_open_road: bool, calm.is_calm: bool,
+            calm.first_uncalm: tuple, calm.odds: dict, calm.calm_whole: Whole, calm.quotients: tuple,
+            calm.quotient: tuple, calm.calm_part: Whole, telling.tells: bool, telling.twins: tuple,
+            telling.are_twins: bool, telling.twins_by: tuple, telling.told_whole: Whole,
+            couldbe.could_be: bool, couldbe.webs_that_could: list, couldbe.least_webs: list, couldbe.sure_arrows: list,
+            couldbe.all_webs: list, plainways.plain: dict, plainways.true_shares: dict, plainways.is_right: bool,
+            plainways.wrong_whole: Whole, plainways.is_wrong_whole: bool, plainways.right_groups: list,
+            texts.seen_text: str, texts.web_text: str, reading.read_seen: Seen, reading.read_web: Web,
         }
         for function, *arguments in CALLS:
             self.assertIs(function(*arguments).__class__, kinds[function], function.__name__)
@@ -55,12 +91,15 @@ class Kinds(Checks):
             self.assertEqual(frozen(function(*arguments)), frozen(answer), function.__name__)
             self.assertEqual(frozen(arguments), before, function.__name__)
 
-    def test_each_list_is_new(self):
+    def test_each_list_and_each_dict_is_new(self):
         for function, *arguments in CALLS:
             answer = function(*arguments)
-            if isinstance(answer, list):
+            if isinstance(answer, (list, dict)):
                 before = frozen(answer)
-                answer.append("more")
+                if isinstance(answer, list):
+                    answer.append("more")
+                else:
+                    answer["more"] = "more"
                 self.assertEqual(frozen(function(*arguments)), before, function.__name__)
 
     def test_fractions_are_in_lowest_terms(self):
@@ -70,6 +109,14 @@ class Kinds(Checks):
         shares += [fraction for pairs in (tables.contents_alone(WHOLE), tables.patterns_alone(SEEN))
                    for _, fraction in pairs]
         shares += [fraction for table in TABLES for _, line in table for fraction in line]
+        wholes = [calm.calm_whole(SEEN), calm.calm_part(WHOLE), telling.told_whole(CROSSED, tables.hidden(TOLD)),
+                  plainways.wrong_whole(CROSSED, (2, 3), "whole rows", (0,), ())]
+        wholes += telling.twins(TIED, (2, 3)) + telling.twins_by(TIED, (2, 3), TIE)
+        shares += [fraction for table in wholes for _, fraction in table.shares]
+        shares += list(plainways.plain(SEEN, "shown rows", (0,), (1,)).values())
+        shares += list(plainways.true_shares(WHOLE, (0,), (1,)).values())
+        for top, bottom in list(calm.odds(CALM, 0, (1,)).values()) + [fraction for _, fraction in calm.quotients(SEEN)]:
+            self.assertEqual(Fraction(top, bottom).as_integer_ratio(), (top, bottom))
         for top, bottom in shares:
             own = Fraction(top, bottom)
             self.assertEqual((own.numerator, own.denominator), (top, bottom))
@@ -86,7 +133,7 @@ class Judged(Checks):
                     try:
                         answer = function(*altered)
                     except BlankError:
-                        self.assertNotIn(function, (tables.share, tables.is_full, webs.is_fitting))
+                        self.assertNotIn((function, place), JUDGES)
                     else:
                         self.assertEqual(frozen(function(*altered)), frozen(answer))
                     self.assertEqual(frozen(arguments[:place] + arguments[place + 1:]), before)

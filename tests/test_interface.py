@@ -3,7 +3,7 @@
 import inspect
 import unittest
 
-from calmblanks import errors, tables, webs
+from calmblanks import calm, couldbe, errors, plainways, reading, roads, tables, telling, texts, webs
 from tests.helper import ROWS
 
 INTERFACE = {
@@ -13,6 +13,18 @@ INTERFACE = {
     webs: """Web(columns, arrows) parents(web, thing) children(web, thing) behind(web, thing) order(web) tied(web)
         fewest_out(web) product(web, sizes, tables) broken(web, whole) tables_of(web, whole) is_fitting(web, thing)
         ties(web) untied(web)""",
+    roads: """open_road(web, one, other, given) are_parted(web, one, other, given)
+        is_open_road(web, one, other, given, thing)""",
+    calm: """is_calm(whole) first_uncalm(whole) odds(whole, column, pattern) calm_whole(seen) calm_part(whole)
+        quotients(seen) quotient(seen, view)""",
+    telling: """tells(web) are_twins(web, sizes, thing) twins(web, sizes) twins_by(web, sizes, tie)
+        told_whole(web, seen)""",
+    couldbe: """could_be(web, seen) webs_that_could(seen) least_webs(seen) sure_arrows(seen) all_webs(columns)""",
+    plainways: """plain(seen, way, wish, group) true_shares(whole, wish, group) is_right(web, way, wish, group)
+        is_wrong_whole(web, sizes, way, wish, group, thing) wrong_whole(web, sizes, way, wish, group)
+        right_groups(web, way, wish)""",
+    texts: """seen_text(seen) web_text(web)""",
+    reading: """read_seen(text) read_web(text)""",
 }
 
 
@@ -44,15 +56,35 @@ class Examples(unittest.TestCase):
         self.assertEqual(tables.family(seen), [(), (0,), (0, 1), (1,)])
         self.assertIs(tables.is_full(seen), True)
 
-    def test_crossed(self):
-        self.assertEqual(webs.order(webs.Web(2, ((0, 3), (1, 2)))), (0, 1, 2, 3))
+    def test_e01(self):
+        whole = calm.calm_whole(tables.seen_of_rows((2, 2), ROWS))
+        answer = (((0, 0), (2, 5)), ((0, 1), (1, 5)), ((1, 0), (1, 10)), ((1, 1), (3, 10)))
+        self.assertEqual(tables.contents_alone(whole), answer)
 
-    def test_e04_as_far_as_it_is_of_ties(self):
+    def test_e02(self):
+        seen = tables.seen_of_rows((2, 2), ROWS)
+        told = (tables.share(seen, (0, 0)), calm.quotient(seen, (0, -1)), calm.quotient(seen, (-1, 1)),
+                calm.quotient(seen, (-1, -1)))
+        self.assertEqual(told, ((1, 5), (1, 2), (2, 5), (1, 2)))
+
+    def test_e03(self):
+        crossed = webs.Web(2, ((0, 3), (1, 2)))
+        told = (telling.tells(crossed), webs.order(crossed), roads.are_parted(crossed, (0,), (2,), ()),
+                plainways.is_right(crossed, "shown rows", (0,), ()), plainways.is_right(crossed, "whole rows", (0,), ()))
+        self.assertEqual(told, (True, (0, 1, 2, 3), True, True, False))
+
+    def test_e04(self):
         own = webs.Web(1, ((0, 1),))
         led = webs.Web(2, ((0, 3), (2, 3)))
-        told = (webs.ties(own), webs.fewest_out(own), webs.ties(led), webs.tied(led),
+        told = (webs.ties(own), webs.fewest_out(own), telling.tells(own), webs.ties(led), webs.tied(led),
                 webs.untied(led) == webs.Web(2, ((2, 3),)))
-        self.assertEqual(told, ([((0, 1),)], (0,), [((0, 3), (2, 3))], (0,), True))
+        self.assertEqual(told, ([((0, 1),)], (0,), False, [((0, 3), (2, 3))], (0,), True))
+
+    def test_e05(self):
+        self.assertEqual((len(couldbe.all_webs(1)), len(couldbe.all_webs(2))), (2, 144))
+
+    def test_e07(self):
+        self.assertEqual(texts.web_text(webs.Web(2, ((0, 3), (2, 3)))), "columns 2\nc0 > b1\nb0 > b1\n")
 
 
 if __name__ == "__main__":
