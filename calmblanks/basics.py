@@ -7,6 +7,7 @@ LEAST_SIZE = 2
 MOST_SIZE = 4
 MOST_CONTENTS = 64
 BLANK = -1
+ONE = (1, 1)
 
 
 def is_integer(thing):
@@ -119,6 +120,16 @@ def times(one, other):
 def divided(one, other):
     """The quotient of a fraction by one above 0."""
     return lowest(one[0] * other[1], one[1] * other[0])
+
+
+def multiplied(fractions):
+    """The product, reduced once."""
+    top = 1
+    bottom = 1
+    for fraction in fractions:
+        top = top * fraction[0]
+        bottom = bottom * fraction[1]
+    return lowest(top, bottom)
 
 
 def joined(one, other):

@@ -1,8 +1,9 @@
 """Calm wholes, and the one that a told seen table is hidden from."""
 
-from calmblanks.basics import BLANK, added, divided, is_between, is_pattern, is_view, lowest
+from calmblanks.basics import BLANK, ONE, added, all_lots, divided, is_between, is_pattern, is_view, multiplied
 from calmblanks.errors import NoColumn, NoPattern, NotCalm, NotClosed, NotFull, NoView
-from calmblanks.tables import Whole, contents, family, hidden, lacking, pattern_of, patterns, seen_of, views
+from calmblanks.tables import Whole, columns_seen, contents, contents_showing, family, hidden, lacking, patterns
+from calmblanks.tables import seen_of
 
 
 def with_column(pattern, column):
@@ -68,71 +69,87 @@ def shows_more(one, other):
     return len(one) > len(other) and all([column in one for column in other])
 
 
+def patterns_lacking(columns, own):
+    """The ascending list of the patterns that show more than one of a family and are not in it."""
+    return [pattern for pattern in all_lots(columns)
+            if pattern not in own and any([shows_more(pattern, other) for other in own])]
+
+
 def judge_told(seen):
-    lack = lacking(seen)
+    views_lacking = lacking(seen)
+    if len(views_lacking) > 0:
+        raise NotFull(views_lacking[0])
+    lack = patterns_lacking(len(seen.sizes), family(seen))
     if len(lack) > 0:
-        raise NotFull(lack[0])
-    own = family(seen)
-    for pattern in patterns(seen.sizes):
-        if pattern not in own and any([shows_more(pattern, other) for other in own]):
-            raise NotClosed(pattern)
+        raise NotClosed(lack[0])
 
 
-def multiplied_views(found, content, shown):
-    """The product of the quotients of a content's views by the patterns shown."""
-    top = 1
-    bottom = 1
-    for pattern in shown:
-        fraction = found[seen_of(content, pattern)]
-        top = top * fraction[0]
-        bottom = bottom * fraction[1]
-    return lowest(top, bottom)
+def even_tilts(sizes):
+    """The tilts that leave calm what is tilted by them."""
+    return tuple([(ONE,) * size for size in sizes])
 
 
-def sums_by_view(seen, found, pattern):
-    """For each view by a pattern the sum, over its contents, of the products by the patterns that show more."""
-    more = [other for other in family(seen) if shows_more(other, pattern)]
-    products = {}
-    for content in contents(seen.sizes):
-        products.setdefault(seen_of(content, pattern), []).append(multiplied_views(found, content, more))
-    return {key: added(products[key]) for key in products}
+def product_at(tilts, found, content, pattern, shown):
+    """The product of the tilts of a content's worths that are blank and of the quotients of its views by the patterns
+    shown."""
+    own = [tilts[column][worth] for column, worth in enumerate(content) if column not in pattern]
+    return multiplied(own + [found[seen_of(content, other)] for other in shown])
 
 
-def quotients_by_view(seen):
-    """The dict from the views of a told seen table to their quotients."""
-    shares = {key: fraction for key, fraction in seen.shares}
+def many_blanks(view):
+    return view.count(BLANK)
+
+
+def worked_quotient(sizes, tilts, found, view, fraction):
+    """The quotient of a view with this share, those by all patterns that show more being found."""
+    pattern = columns_seen(view)
+    # The family is closed, so that all patterns that show more are in it.
+    more = [other for other in patterns(sizes) if shows_more(other, pattern)]
+    shown = contents_showing(sizes, view)
+    return divided(fraction, added([product_at(tilts, found, content, pattern, more) for content in shown]))
+
+
+def quotients_by_view(seen, tilts):
+    """The dict from the views of a told seen table to their quotients, of the whole that is tilted so."""
     found = {}
-    # Patterns that show more come first, as their quotients are needed for those that show less.
-    for pattern in sorted(family(seen), key=len, reverse=True):
-        sums = sums_by_view(seen, found, pattern)
-        for key in views(seen.sizes, pattern):
-            found[key] = divided(shares[key], sums[key])
+    # Views that show more come first, as their quotients are needed for those that show less.
+    shares = {key: fraction for key, fraction in seen.shares}
+    for key in sorted(shares, key=many_blanks):
+        found[key] = worked_quotient(seen.sizes, tilts, found, key, shares[key])
     return found
+
+
+def whole_of(sizes, own, tilts, found):
+    """The whole of a closed family that is tilted so and has these quotients."""
+    shares = []
+    for content in contents(sizes):
+        for pattern in own:
+            shown = [other for other in own if other == pattern or shows_more(other, pattern)]
+            shares.append(((content, pattern), product_at(tilts, found, content, pattern, shown)))
+    return Whole(sizes, tuple(shares))
+
+
+def whole_tilted(seen, tilts):
+    """The whole that is tilted so and hidden so, of a told seen table."""
+    return whole_of(seen.sizes, family(seen), tilts, quotients_by_view(seen, tilts))
 
 
 def quotients(seen):
     judge_told(seen)
-    found = quotients_by_view(seen)
+    found = quotients_by_view(seen, even_tilts(seen.sizes))
     return tuple([(key, found[key]) for key in sorted(found)])
 
 
 def quotient(seen, view):
     judge_told(seen)
-    if not is_view(seen.sizes, view) or pattern_of(seen, view) not in family(seen):
+    if not is_view(seen.sizes, view) or columns_seen(view) not in family(seen):
         raise NoView()
-    return quotients_by_view(seen)[view]
+    return quotients_by_view(seen, even_tilts(seen.sizes))[view]
 
 
 def calm_whole(seen):
     judge_told(seen)
-    found = quotients_by_view(seen)
-    own = family(seen)
-    shares = []
-    for content in contents(seen.sizes):
-        for pattern in own:
-            shown = [other for other in own if other == pattern or shows_more(other, pattern)]
-            shares.append(((content, pattern), multiplied_views(found, content, shown)))
-    return Whole(seen.sizes, tuple(shares))
+    return whole_tilted(seen, even_tilts(seen.sizes))
 
 
 def calm_part(whole):

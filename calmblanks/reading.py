@@ -9,30 +9,30 @@ MOST_FIGURES = 60
 NO_THING = -1
 
 
-def is_figures(word):
-    """Whether a word is a number of at most 60 figures without needless zeros."""
-    if not 1 <= len(word) <= MOST_FIGURES or not all([sign in "0123456789" for sign in word]):
+def is_figures(most, word):
+    """Whether a word is a number of at most so many figures without needless zeros."""
+    if not 1 <= len(word) <= most or not all([sign in "0123456789" for sign in word]):
         return False
     return word == "0" or word[0] != "0"
 
 
 def is_sizes_line(words):
-    return words[0] == "sizes" and all([is_figures(word) for word in words[1:]])
+    return words[0] == "sizes" and all([is_figures(MOST_FIGURES, word) for word in words[1:]])
 
 
 def is_share_line(words):
     if len(words) < 3 or words[-3] != ":":
         return False
     worths = [word for word in words[:-3] if word != "-"]
-    return all([is_figures(word) for word in worths + words[-2:]])
+    return all([is_figures(MOST_FIGURES, word) for word in worths + words[-2:]])
 
 
 def is_columns_line(words):
-    return len(words) == 2 and words[0] == "columns" and is_figures(words[1])
+    return len(words) == 2 and words[0] == "columns" and is_figures(MOST_FIGURES, words[1])
 
 
 def is_thing_word(word):
-    return word[:1] in ("c", "b") and is_figures(word[1:])
+    return word[:1] in ("c", "b") and is_figures(MOST_FIGURES, word[1:])
 
 
 def is_arrow_line(words):

@@ -97,15 +97,28 @@ def seen_of(content, pattern):
     return tuple([worth if column in pattern else BLANK for column, worth in enumerate(content)])
 
 
+def columns_seen(key):
+    """The pattern by which a view is one."""
+    return tuple([column for column, worth in enumerate(key) if worth != BLANK])
+
+
+def contents_showing(sizes, key):
+    """The ascending list of the contents that show a view."""
+    return all_tuples([list(range(size)) if worth == BLANK else [worth] for worth, size in zip(key, sizes)])
+
+
 def pattern_of(table, key):
     """The pattern of a key of the table's shares."""
-    if isinstance(table, Whole):
-        return key[1]
-    return tuple([column for column, worth in enumerate(key) if worth != BLANK])
+    return key[1] if isinstance(table, Whole) else columns_seen(key)
 
 
 def family(table):
     return sorted({pattern_of(table, key) for key, _ in table.shares})
+
+
+def has_family(table, own):
+    """Whether the family of a table are just the patterns of a tuple."""
+    return family(table) == list(own)
 
 
 def share(table, key):

@@ -1,7 +1,7 @@
 """Webs of arrows among columns and blanks, the wholes that fit them, and ties."""
 
 from calmblanks.basics import MOST_COLUMNS, added, all_tuples, gathered, is_between, is_just, is_share, is_sizes
-from calmblanks.basics import is_tuple_of, lowest, parted, picked
+from calmblanks.basics import is_tuple_of, multiplied, parted, picked
 from calmblanks.errors import BadSizes, BadTables, BadWeb, NoThing, NotAll, OtherColumns
 from calmblanks.tables import Whole, contents, family, patterns
 
@@ -141,18 +141,12 @@ def product(web, sizes, tables):
     ahead = [parents(web, thing) for thing in range(len(tables))]
     lines = [{worths: shares for worths, shares in table} for table in tables]
     keys = [(content, pattern) for content in contents(sizes) for pattern in patterns(sizes)]
-    return Whole(sizes, tuple([(key, multiplied(ahead, lines, worths_of_all(key[0], key[1]))) for key in keys]))
+    return Whole(sizes, tuple([(key, share_by_tables(ahead, lines, worths_of_all(key[0], key[1]))) for key in keys]))
 
 
-def multiplied(ahead, lines, worths):
+def share_by_tables(ahead, lines, worths):
     """The product of the shares of all things' worths, each given those of its parents."""
-    top = 1
-    bottom = 1
-    for thing, worth in enumerate(worths):
-        fraction = lines[thing][picked(worths, ahead[thing])][worth]
-        top = top * fraction[0]
-        bottom = bottom * fraction[1]
-    return lowest(top, bottom)
+    return multiplied([lines[thing][picked(worths, ahead[thing])][worth] for thing, worth in enumerate(worths)])
 
 
 def has_all(whole):

@@ -140,9 +140,20 @@ def shown(content, pattern):
     return tuple(worth if column in pattern else -1 for column, worth in enumerate(content))
 
 
-def woven(sizes, family, start):
-    """A calm whole: for each pattern of its family a drawn number for each view, and of each content and pattern the
-    product of the numbers of its views by all patterns that show this or more."""
+def ones(sizes):
+    return tuple(((1, 1),) * size for size in sizes)
+
+
+def drawn_tilts(sizes, start):
+    dice = numbers(start)
+    return tuple(((1, 1),) + tuple(as_pair(Fraction(next(dice),
+                                                    next(dice))) for _ in range(size - 1)) for size in sizes)
+
+
+def tilted(sizes, family, tilts, start):
+    """A whole that is tilted so: for each pattern of its family a drawn number for each view, and of each content and
+    pattern the product of the numbers of its views by all patterns that show this or more, and of the tilts of those
+    of its worths that are blank."""
     drawn = {}
     dice = numbers(start)
     for content, pattern in keys_of(sizes, family):
@@ -150,23 +161,33 @@ def woven(sizes, family, start):
             drawn[shown(content, pattern)] = next(dice)
     weights = []
     for content, pattern in keys_of(sizes, family):
-        weight = 1
+        weight = Fraction(1)
         for more in family:
             if set(pattern) <= set(more):
                 weight *= drawn[shown(content, more)]
+        for column, worth in enumerate(content):
+            if column not in pattern:
+                weight *= Fraction(*tilts[column][worth])
         weights.append(weight)
     return weighed(sizes, family, weights)
+
+
+def woven(sizes, family, start):
+    """A calm whole of drawn numbers."""
+    return tilted(sizes, family, ones(sizes), start)
+
+
+def all_families(columns):
+    """All families of so many columns."""
+    patterns = lots_of(columns)
+    return [family for many in range(1, len(patterns) + 1) for family in itertools.combinations(patterns, many)]
 
 
 def closed_families(columns):
     """All families of so many columns in which with each pattern all are that show more."""
     patterns = lots_of(columns)
-    found = []
-    for many in range(1, len(patterns) + 1):
-        for family in itertools.combinations(patterns, many):
-            if all(more in family for pattern in family for more in patterns if set(pattern) < set(more)):
-                found.append(list(family))
-    return found
+    return [list(family) for family in all_families(columns)
+            if all(more in family for pattern in family for more in patterns if set(pattern) < set(more))]
 
 
 def cells(key):

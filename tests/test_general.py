@@ -5,12 +5,13 @@ import sys
 import unittest
 from fractions import Fraction
 
-from calmblanks import calm, couldbe, plainways, reading, roads, tables, telling, texts, webs
+from calmblanks import (calm, couldbe, families, plainways, questions, reading, roads, tables, telling, texts, tilts,
+                        webs)
 from calmblanks.errors import BlankError
 from calmblanks.tables import Seen, Whole
 from calmblanks.webs import Web
-from tests.helper import (ROWS, SIXTY, Checks, bare_whole, deep, fitting, frozen, halves, lots_of, odd_numbers, uneven,
-                          weighed, woven)
+from tests.helper import (ROWS, SIXTY, Checks, bare_whole, deep, fitting, frozen, halves, lots_of, odd_numbers, tilted,
+                          uneven, weighed, woven)
 
 SEEN = tables.seen_of_rows((2, 2), ROWS)
 WHOLE = uneven((2, 2), lots_of(2), 1)
@@ -22,6 +23,10 @@ TIED = Web(2, ((0, 2), (0, 3), (2, 3)))
 TWINS = telling.twins(TIED, (2, 2))
 TIE = ((0, 3), (2, 3))
 TOLD = fitting(CROSSED, (2, 2), 1)
+TILTS = (((1, 1), (2, 3)), ((1, 1), (5, 1)))
+TILTED = tilted((2, 2), lots_of(2), TILTS, 1)
+OPEN = ((), (1,))
+QUESTION = "share c0=1 and not b1 if b0 or (c1=0)"
 CALLS = [
     (Seen, (2, 2), SEEN.shares), (Whole, (2, 2), WHOLE.shares), (Web, 2, WEB.arrows),
     (tables.contents, (2, 2)), (tables.patterns, (2, 2)), (tables.views, (2, 2), (0,)), (tables.family, SEEN),
@@ -41,11 +46,19 @@ CALLS = [
     (couldbe.could_be, CROSSED, SEEN), (couldbe.webs_that_could, SEEN), (couldbe.least_webs, SEEN),
     (couldbe.sure_arrows, tables.hidden(TOLD)), (couldbe.all_webs, 1),
     (plainways.plain, SEEN, "shown rows", (0,), (1,)), (plainways.true_shares, WHOLE, (0,), (1,)),
-    (plainways.is_right, CROSSED, "shown rows", (0,), ()), (plainways.wrong_whole, CROSSED, (2, 3), "whole rows", (0,), ()),
+    (plainways.is_right, CROSSED, "shown rows", (0,), ()), (plainways.wrong_whole, CROSSED, (2, 3), "whole rows", (0,),
+                                                            ()),
     (plainways.is_wrong_whole, CROSSED, (2, 2), "whole rows", (0,), (), TOLD),
     (plainways.right_groups, CROSSED, "shown rows", (0,)),
     (texts.seen_text, SEEN), (texts.web_text, WEB), (reading.read_seen, texts.seen_text(SEEN)),
     (reading.read_web, texts.web_text(WEB)),
+    (tilts.tilted_whole, SEEN, TILTS), (tilts.tilts_of, TILTED), (tilts.retilted, TILTED, TILTS[::-1]),
+    (tilts.tilts_between, TILTED, calm.calm_part(TILTED)),
+    (families.is_closed, 2, OPEN), (families.closed_around, 2, OPEN), (families.lacking_patterns, 2, OPEN),
+    (families.closed_families, 2), (families.calm_twins, (2, 3), OPEN),
+    (families.are_calm_twins, (2, 3), OPEN, families.calm_twins((2, 3), OPEN)),
+    (questions.asked, WHOLE, QUESTION), (questions.asked_calm, SEEN, QUESTION),
+    (questions.asked_tilted, SEEN, TILTS, "mean c1 if b1"), (questions.bounds, SEEN, QUESTION),
 ]
 # For each call the places of the arguments for which an error is named, or of which a thing is judged.
 JUDGED = {
@@ -56,11 +69,15 @@ JUDGED = {
     calm.is_calm: (0,), calm.odds: (1, 2), calm.quotient: (1,), telling.twins: (1,), telling.are_twins: (1, 2),
     telling.twins_by: (1, 2), couldbe.all_webs: (0,), plainways.plain: (1, 2, 3), plainways.true_shares: (1, 2),
     plainways.is_right: (1, 2, 3), plainways.wrong_whole: (1, 2, 3, 4), plainways.is_wrong_whole: (1, 2, 3, 4, 5),
-    plainways.right_groups: (1, 2), reading.read_seen: (0,), reading.read_web: (0,),
+    plainways.right_groups: (1, 2), reading.read_seen: (0,), reading.read_web: (0,), tilts.tilted_whole: (1,),
+    tilts.retilted: (1,), tilts.tilts_between: (1,), families.is_closed: (0, 1), families.closed_around: (0, 1),
+    families.lacking_patterns: (0, 1), families.closed_families: (0,), families.calm_twins: (0, 1),
+    families.are_calm_twins: (0, 1, 2), questions.asked: (1,), questions.asked_calm: (1,),
+    questions.asked_tilted: (1, 2), questions.bounds: (1,),
 }
 # Functions that judge just what is put in the place of this argument, and raise no error because of it.
 JUDGES = ((tables.share, 1), (tables.is_full, 0), (webs.is_fitting, 1), (roads.is_open_road, 4), (calm.is_calm, 0),
-          (telling.are_twins, 2), (plainways.is_wrong_whole, 5))
+          (telling.are_twins, 2), (plainways.is_wrong_whole, 5), (families.are_calm_twins, 2))
 
 
 class Kinds(Checks):
@@ -80,6 +97,10 @@ class Kinds(Checks):
             couldbe.all_webs: list, plainways.plain: dict, plainways.true_shares: dict, plainways.is_right: bool,
             plainways.wrong_whole: Whole, plainways.is_wrong_whole: bool, plainways.right_groups: list,
             texts.seen_text: str, texts.web_text: str, reading.read_seen: Seen, reading.read_web: Web,
+            tilts.tilted_whole: Whole, tilts.tilts_of: tuple, tilts.retilted: Whole, tilts.tilts_between: tuple,
+            families.is_closed: bool, families.closed_around: tuple, families.lacking_patterns: list,
+            families.closed_families: list, families.calm_twins: tuple, families.are_calm_twins: bool,
+            questions.asked: tuple, questions.asked_calm: tuple, questions.asked_tilted: tuple, questions.bounds: tuple,
         }
         for function, *arguments in CALLS:
             self.assertIs(function(*arguments).__class__, kinds[function], function.__name__)
@@ -111,11 +132,16 @@ class Kinds(Checks):
         shares += [fraction for table in TABLES for _, line in table for fraction in line]
         wholes = [calm.calm_whole(SEEN), calm.calm_part(WHOLE), telling.told_whole(CROSSED, tables.hidden(TOLD)),
                   plainways.wrong_whole(CROSSED, (2, 3), "whole rows", (0,), ())]
-        wholes += telling.twins(TIED, (2, 3)) + telling.twins_by(TIED, (2, 3), TIE)
+        wholes += telling.twins(TIED, (2, 3)) + telling.twins_by(TIED, (2, 3), TIE) + families.calm_twins((2, 3), OPEN)
+        wholes += [tilts.tilted_whole(SEEN, TILTS), tilts.retilted(TILTED, TILTS[::-1])]
+        shares += [questions.asked(WHOLE, QUESTION), questions.asked_calm(SEEN, QUESTION),
+                   *questions.bounds(SEEN, QUESTION)]
         shares += [fraction for table in wholes for _, fraction in table.shares]
         shares += list(plainways.plain(SEEN, "shown rows", (0,), (1,)).values())
         shares += list(plainways.true_shares(WHOLE, (0,), (1,)).values())
-        for top, bottom in list(calm.odds(CALM, 0, (1,)).values()) + [fraction for _, fraction in calm.quotients(SEEN)]:
+        quotients = list(calm.odds(CALM, 0, (1,)).values()) + [fraction for _, fraction in calm.quotients(SEEN)]
+        quotients += [tilt for line in tilts.tilts_of(TILTED) + tilts.tilts_between(CALM, CALM) for tilt in line]
+        for top, bottom in quotients + [questions.asked_tilted(SEEN, TILTS, "mean c1 if b1")]:
             self.assertEqual(Fraction(top, bottom).as_integer_ratio(), (top, bottom))
         for top, bottom in shares:
             own = Fraction(top, bottom)
@@ -141,12 +167,16 @@ class Judged(Checks):
     def test_forty_deep_within_what_is_otherwise_right(self):
         for make in (lambda thing: (thing,), lambda thing: [thing], lambda thing: {0: thing}, lambda thing: (thing, 1)):
             thing = deep(make, 36)
-            for wrong in [((thing, (1, 1)),), (((0, 0), thing),), (((0, 0), (thing, 1)),), (((0, thing), (1, 1)),), (thing,)]:
+            for wrong in [((thing, (1, 1)),), (((0, 0), thing),), (((0, 0), (thing, 1)),), (((0, thing), (1, 1)),),
+                          (thing,)]:
                 self.raises(tables.BadSeen, {"part": 0}, Seen, (2, 2), wrong)
                 self.raises(tables.BadWhole, {"part": 0}, Whole, (2, 2), wrong)
                 self.raises(webs.BadWeb, {"part": 0}, Web, 2, wrong)
                 self.raises(webs.BadTables, {"thing": 0}, webs.product, WEB, (2, 2), (wrong,) + TABLES[1:])
                 self.tells((0, 1), tables.share, SEEN, wrong)
+                self.raises(tilts.BadTilts, {"column": 0}, tilts.tilted_whole, SEEN, (wrong, TILTS[1]))
+                self.raises(families.BadFamily, {}, families.is_closed, 2, wrong)
+                self.tells(False, families.are_calm_twins, (2, 2), OPEN, (wrong, wrong))
 
     def test_long_tuples(self):
         many = 6000

@@ -3,7 +3,8 @@
 import inspect
 import unittest
 
-from calmblanks import calm, couldbe, errors, plainways, reading, roads, tables, telling, texts, webs
+from calmblanks import (calm, couldbe, errors, families, plainways, questions, reading, roads, tables, telling, texts,
+                        tilts, webs)
 from tests.helper import ROWS
 
 INTERFACE = {
@@ -25,6 +26,10 @@ INTERFACE = {
         right_groups(web, way, wish)""",
     texts: """seen_text(seen) web_text(web)""",
     reading: """read_seen(text) read_web(text)""",
+    tilts: """tilted_whole(seen, tilts) retilted(whole, tilts) tilts_of(whole) tilts_between(whole, other)""",
+    families: """is_closed(columns, family) are_calm_twins(sizes, family, thing) closed_around(columns, family)
+        lacking_patterns(columns, family) closed_families(columns) calm_twins(sizes, family)""",
+    questions: """asked(whole, text) asked_calm(seen, text) asked_tilted(seen, tilts, text) bounds(seen, text)""",
 }
 
 
@@ -82,6 +87,13 @@ class Examples(unittest.TestCase):
 
     def test_e05(self):
         self.assertEqual((len(couldbe.all_webs(1)), len(couldbe.all_webs(2))), (2, 144))
+
+    def test_e06(self):
+        seen = tables.seen_of_rows((2, 2), ROWS)
+        whole = calm.calm_whole(seen)
+        told = (questions.asked(whole, "share c0=1 if b0"), questions.asked(whole, "mean c1 if not b1"),
+                questions.bounds(seen, "share c0=1"))
+        self.assertEqual(told, ((2, 5), (1, 2), ((3, 10), (11, 20))))
 
     def test_e07(self):
         self.assertEqual(texts.web_text(webs.Web(2, ((0, 3), (2, 3)))), "columns 2\nc0 > b1\nb0 > b1\n")

@@ -60,8 +60,23 @@ def bound_at_top(tree):
 def bound_in(function):
     names = [argument.arg for own in ast.walk(function) if isinstance(own, (ast.FunctionDef, ast.Lambda))
              for argument in own.args.args]
+    names += [node.name for node in ast.walk(function) if isinstance(node, ast.ExceptHandler) and node.name]
     return names + [node.id for node in ast.walk(function) if isinstance(node, ast.Name)
                     and isinstance(node.ctx, (ast.Store, ast.Del))]
+
+
+def classes():
+    return [node for _, tree in trees() for node in tree.body if isinstance(node, ast.ClassDef)]
+
+
+def own_methods():
+    return {function.name for kind in classes() for function in functions(kind)} - DOUBLE
+
+
+def own_attributes():
+    """The names of all attributes that are assigned anywhere."""
+    return {node.attr for _, tree in trees() for node in ast.walk(tree)
+            if isinstance(node, ast.Attribute) and isinstance(node.ctx, ast.Store)}
 
 
 class Language(unittest.TestCase):
@@ -158,7 +173,8 @@ class Language(unittest.TestCase):
                 if isinstance(node, ast.Compare) and isinstance(node.ops[0], (ast.Is, ast.IsNot)):
                     self.assertIsInstance(node.comparators[0], ast.Constant, place)
                 if isinstance(node, ast.Attribute) and isinstance(node.ctx, ast.Store):
-                    self.assertEqual(node.value.id, "self", place)
+                    self.assertIsInstance(node.value, ast.Name, place)
+                    self.assertNotIn(node.value.id, bound_at_top(tree), place)
 
     def test_generators_and_sets_stand_where_they_may(self):
         for name, tree in trees():
@@ -197,15 +213,42 @@ class Language(unittest.TestCase):
                         self.assertNotEqual(node.id, "_", f"{name}: {node.lineno}")
 
     def test_calls(self):
+        own_names = own_methods()
         for name, tree in trees():
             for node in ast.walk(tree):
                 if isinstance(node, ast.Call):
                     self.assertFalse(any(isinstance(own, ast.Starred) for own in node.args), f"{name}: {node.lineno}")
                     if isinstance(node.func, ast.Attribute):
-                        self.assertIn(node.func.attr, METHODS, f"{name}: {node.lineno}")
+                        self.assertIn(node.func.attr, METHODS | own_names, f"{name}: {node.lineno}")
                         self.assertEqual(node.keywords, [], f"{name}: {node.lineno}")
                     else:
                         self.assertIsInstance(node.func, ast.Name, f"{name}: {node.lineno}")
+
+    def test_methods_and_attributes(self):
+        self.assertEqual(own_methods() & own_attributes(), set())
+        self.assertLessEqual(own_methods() & METHODS, {"add", "copy"})
+        known = own_methods() | own_attributes() | METHODS
+        for name, tree in trees():
+            for node in ast.walk(tree):
+                if isinstance(node, ast.Attribute) and not node.attr.startswith("__"):
+                    self.assertIn(node.attr, known, f"{name}: {node.lineno}")
+
+    def test_handlers_name_one_own_error_each(self):
+        errors = [kind.name for kind in classes() if kind.bases]
+        for name, tree in trees():
+            for node in ast.walk(tree):
+                if isinstance(node, ast.ExceptHandler):
+                    self.assertIn(node.type.id, errors, f"{name}: {node.lineno}")
+
+    def test_tables_at_the_top_are_indexed_or_searched_alone(self):
+        for name, tree in trees():
+            tables = [node.targets[0].id for node in tree.body
+                      if isinstance(node, ast.Assign) and isinstance(node.value, (ast.Dict, ast.List))]
+            searched = [node.value for node in ast.walk(tree) if isinstance(node, ast.Subscript)]
+            searched += [node.comparators[0] for node in ast.walk(tree) if isinstance(node, ast.Compare)]
+            for node in ast.walk(tree):
+                if isinstance(node, ast.Name) and node.id in tables and isinstance(node.ctx, ast.Load):
+                    self.assertIn(node, searched, f"{name}: {node.lineno}")
 
     def test_equality_has_the_one_form(self):
         for name, tree in trees():
