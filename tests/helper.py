@@ -5,6 +5,8 @@ import unittest
 from fractions import Fraction
 
 from calmblanks import errors
+from calmblanks.desk import Desk
+from calmblanks.store import Rows
 from calmblanks.tables import Seen, Whole
 from calmblanks.webs import Web
 
@@ -35,7 +37,7 @@ def odd_things():
         None, True, False, "", "a", "0", "sizes", b"", b"\x00", b"\x02\x02", [], [0], [2, 2], [()], {}, {0: 1},
         {"sizes": (2,)}, range(2), bytearray(b"\x02"), memoryview(b"\x02"), slice(0, 2), Ellipsis, NotImplemented,
         int, tuple, len, deep, object(), iter(()), zip(), (n for n in ()), Seen, halves(), bare_whole(),
-        Web(1, ()), Web(2, ((0, 3), (2, 3))), errors.BadSizes(), errors.BadSeen("sum"),
+        Web(1, ()), Web(2, ((0, 3), (2, 3))), errors.BadSizes(), errors.BadSeen("sum"), Rows((2,)), Desk((2, 2)),
         deep(lambda thing: (thing,), 40), deep(lambda thing: [thing], 40), deep(lambda thing: {0: thing}, 40),
         (None,) * 20000, [None] * 20000, (True,), (False, False), (None, 0), ("0",), ("ab",), (b"\x00",), ([0],),
         ({},), (halves(),), (Web(1, ()),), ((True,), (1, 1)), ([0], (1, 1)),
@@ -67,7 +69,7 @@ def frozen(thing):
         return (thing.__class__, tuple(frozen(item) for item in thing))
     if isinstance(thing, dict):
         return (dict, tuple((frozen(key), frozen(item)) for key, item in thing.items()))
-    if isinstance(thing, (Seen, Whole, Web)):
+    if isinstance(thing, (Seen, Whole, Web, Rows, Desk)):
         return (thing.__class__, frozen(list(vars(thing).items())))
     return (thing.__class__, thing)
 

@@ -5,8 +5,8 @@ import sys
 import unittest
 from fractions import Fraction
 
-from calmblanks import (calm, couldbe, families, plainways, questions, reading, roads, tables, telling, texts, tilts,
-                        webs)
+from calmblanks import (calm, couldbe, desk, families, joining, plainways, questions, reading, roads, store, strangers,
+                        tables, telling, texts, tilts, webs)
 from calmblanks.errors import BlankError
 from calmblanks.tables import Seen, Whole
 from calmblanks.webs import Web
@@ -27,6 +27,56 @@ TILTS = (((1, 1), (2, 3)), ((1, 1), (5, 1)))
 TILTED = tilted((2, 2), lots_of(2), TILTS, 1)
 OPEN = ((), (1,))
 QUESTION = "share c0=1 and not b1 if b0 or (c1=0)"
+THREE = woven((2, 3), lots_of(2), 1)
+LINES = ["add 00", "add 0-", "mend 1 11", "undo", "counts", "plain share c0=0", "arrow c0 b1", "ask share", "could"]
+
+
+def even(view):
+    """A filler: the same share for each content of sizes of two."""
+    contents = tables.contents_showing((2,) * len(view), view)
+    return {content: (1, len(contents)) for content in contents}
+
+
+def led_by(function, *arguments):
+    """What a new store of the rows of the examples tells when it is led by one of its methods."""
+    rows = store.Rows((2, 2))
+    for view in ROWS:
+        rows.add(view)
+    return function(rows, *arguments)
+
+
+def add(*own):
+    return led_by(store.Rows.add, *own)
+
+
+def mend(*own):
+    return led_by(store.Rows.mend, *own)
+
+
+def strike(*own):
+    return led_by(store.Rows.strike, *own)
+
+
+def ask(*own):
+    return led_by(store.Rows.ask, *own)
+
+
+def quotient(*own):
+    return led_by(store.Rows.quotient, *own)
+
+
+def counts():
+    return led_by(store.Rows.counts)
+
+
+def rows_that_stand():
+    return led_by(store.Rows.rows)
+
+
+def tell(line):
+    return desk.Desk((2, 2)).tell(line)
+
+
 CALLS = [
     (Seen, (2, 2), SEEN.shares), (Whole, (2, 2), WHOLE.shares), (Web, 2, WEB.arrows),
     (tables.contents, (2, 2)), (tables.patterns, (2, 2)), (tables.views, (2, 2), (0,)), (tables.family, SEEN),
@@ -59,6 +109,13 @@ CALLS = [
     (families.are_calm_twins, (2, 3), OPEN, families.calm_twins((2, 3), OPEN)),
     (questions.asked, WHOLE, QUESTION), (questions.asked_calm, SEEN, QUESTION),
     (questions.asked_tilted, SEEN, TILTS, "mean c1 if b1"), (questions.bounds, SEEN, QUESTION),
+    (joining.worths_joined, THREE, 1, (0, 1, 0)), (joining.without_column, SEEN, 1),
+    (joining.spoilt, THREE, 1, (0, 1, 0)),
+    (joining.safe_leads, THREE, 1),
+    (strangers.filled, SEEN, even), (strangers.proportional, SEEN), (strangers.refuted, even, (2, 2)),
+    (strangers.drawn, WHOLE, [(0, 1), (1, 3)]), (strangers.even_draws, WHOLE, 10),
+    (add, (0, 0)), (mend, 3, (-1, 0)), (strike, 5), (ask, QUESTION), (quotient, (0, -1)), (counts,), (rows_that_stand,),
+    (tell, "add 00"), (desk.desk_tale, (2, 2), LINES), (store.Rows, (2, 2)), (desk.Desk, (2, 2)),
 ]
 # For each call the places of the arguments for which an error is named, or of which a thing is judged.
 JUDGED = {
@@ -73,7 +130,10 @@ JUDGED = {
     tilts.retilted: (1,), tilts.tilts_between: (1,), families.is_closed: (0, 1), families.closed_around: (0, 1),
     families.lacking_patterns: (0, 1), families.closed_families: (0,), families.calm_twins: (0, 1),
     families.are_calm_twins: (0, 1, 2), questions.asked: (1,), questions.asked_calm: (1,),
-    questions.asked_tilted: (1, 2), questions.bounds: (1,),
+    questions.asked_tilted: (1, 2), questions.bounds: (1,), joining.worths_joined: (1, 2), joining.without_column: (1,),
+    joining.spoilt: (1, 2), joining.safe_leads: (1,), strangers.refuted: (1,), strangers.drawn: (1,),
+    strangers.even_draws: (1,), add: (0,), mend: (0, 1), strike: (0,), ask: (0,), quotient: (0,), tell: (0,),
+    desk.desk_tale: (0, 1), store.Rows: (0,), desk.Desk: (0,),
 }
 # Functions that judge just what is put in the place of this argument, and raise no error because of it.
 JUDGES = ((tables.share, 1), (tables.is_full, 0), (webs.is_fitting, 1), (roads.is_open_road, 4), (calm.is_calm, 0),
@@ -100,7 +160,12 @@ class Kinds(Checks):
             tilts.tilted_whole: Whole, tilts.tilts_of: tuple, tilts.retilted: Whole, tilts.tilts_between: tuple,
             families.is_closed: bool, families.closed_around: tuple, families.lacking_patterns: list,
             families.closed_families: list, families.calm_twins: tuple, families.are_calm_twins: bool,
-            questions.asked: tuple, questions.asked_calm: tuple, questions.asked_tilted: tuple, questions.bounds: tuple,
+            joining.worths_joined: Whole, joining.without_column: Seen, joining.spoilt: int, joining.safe_leads: list,
+            strangers.filled: Whole, strangers.proportional: Whole, strangers.refuted: Seen, strangers.drawn: list,
+            strangers.even_draws: list, add: int, mend: None.__class__, strike: None.__class__, ask: tuple,
+            quotient: tuple, counts: dict, rows_that_stand: dict, tell: str, desk.desk_tale: list,
+            store.Rows: store.Rows, desk.Desk: desk.Desk, questions.asked: tuple, questions.asked_calm: tuple,
+            questions.asked_tilted: tuple, questions.bounds: tuple,
         }
         for function, *arguments in CALLS:
             self.assertIs(function(*arguments).__class__, kinds[function], function.__name__)
@@ -241,7 +306,8 @@ class Large(Checks):
 class Unlike(Checks):
     def test_objects_of_unlike_classes_are_unlike(self):
         seen = Seen((2,), (((0,), (1, 2)), ((1,), (1, 2))))
-        things = [seen, bare_whole(), Web(1, ()), tables.BadSizes(), tables.BadSeen("sum"), (2,), 1, None, seen.shares]
+        things = [seen, bare_whole(), Web(1, ()), store.Rows((2,)), desk.Desk((2,)), tables.BadSizes(),
+                  tables.BadSeen("sum"), (2,), 1, None, seen.shares]
         for one, other in itertools.permutations(things, 2):
             self.assertFalse(one == other)
             self.assertTrue(one != other)

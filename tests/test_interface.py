@@ -3,8 +3,8 @@
 import inspect
 import unittest
 
-from calmblanks import (calm, couldbe, errors, families, plainways, questions, reading, roads, tables, telling, texts,
-                        tilts, webs)
+from calmblanks import (calm, couldbe, desk, errors, families, joining, plainways, questions, reading, roads, store,
+                        strangers, tables, telling, texts, tilts, webs)
 from tests.helper import ROWS
 
 INTERFACE = {
@@ -29,6 +29,12 @@ INTERFACE = {
     tilts: """tilted_whole(seen, tilts) retilted(whole, tilts) tilts_of(whole) tilts_between(whole, other)""",
     families: """is_closed(columns, family) are_calm_twins(sizes, family, thing) closed_around(columns, family)
         lacking_patterns(columns, family) closed_families(columns) calm_twins(sizes, family)""",
+    store: """Rows(sizes)""",
+    joining: """worths_joined(table, column, lead) without_column(table, column) spoilt(whole, column, lead)
+        safe_leads(whole, column)""",
+    strangers: """filled(seen, filler) proportional(seen) refuted(filler, sizes) drawn(whole, throws)
+        even_draws(whole, many)""",
+    desk: """Desk(sizes) desk_tale(sizes, lines)""",
     questions: """asked(whole, text) asked_calm(seen, text) asked_tilted(seen, tilts, text) bounds(seen, text)""",
 }
 
@@ -47,6 +53,17 @@ class Interface(unittest.TestCase):
             self.assertIn("__eq__", vars(kind))
             self.assertIn("__init__", vars(kind))
             self.assertEqual(kind.__bases__, (object,))
+
+    def test_methods_of_the_store_and_the_desk(self):
+        methods = {store.Rows: """add(view) worked() mend(number, view) strike(number) undo() rows() counts() seen() whole()
+            ask(text) quotient(view) copy()""", desk.Desk: "tell(line)"}
+        for kind, text in methods.items():
+            self.assertEqual(kind.__bases__, (object,))
+            for item in text.replace(")", ")|").split("|")[:-1]:
+                name, arguments = item.strip().rstrip(")").split("(")
+                self.assertIn(name, vars(kind))
+                found = list(inspect.signature(vars(kind)[name]).parameters)
+                self.assertEqual(found, ["self"] + [own for own in arguments.split(", ") if own], name)
 
     def test_errors_are_defined_in_their_file(self):
         for thing in vars(errors).values():
