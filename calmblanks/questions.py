@@ -73,7 +73,7 @@ class Level:
 
 
 def mask_of(flags):
-    """The number whose bits are the flags, the first one the least."""
+    """The number whose bits are the flags, the first one the least: so are told the keys that meet a condition."""
     return sum([1 << place for place, flag in enumerate(flags) if flag])
 
 
@@ -159,7 +159,7 @@ def judge_text(sizes, text):
 
 
 def answered(sizes, pairs, text):
-    """The answer by pairs of a key, which is a content and a pattern, and a fraction; of any sum."""
+    """The answer by pairs of a key (a content and a pattern) and a fraction, whatever their sum is."""
     column, wanted, told = read_question(sizes, [key for key, _ in pairs], text)
     total = added([fraction for _, fraction in marked(told, pairs)])
     if total[0] == 0:
